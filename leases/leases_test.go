@@ -248,28 +248,59 @@ func TestGrantToAGreaterEpoch(t *testing.T) {
 
 // P17.3: of the same epoch the later end holds, in whichever order the ticks come.
 func TestGrantToTheSameEpoch(t *testing.T) {
-	ticks := []int{0, 9, 10, 11, 25, 26, 27, 500, lastTick - 1, lastTick, lastTick + 1, math.MaxInt}
-	for i, first := range ticks {
-		for j, second := range ticks {
+	for _, first := range clocks {
+		for _, second := range clocks {
 			b := made(t, 0)
-			wantGrant(t, b, 2, 5, first, api.OK)
-			wantGrant(t, b, 2, 5, second, api.OK)
-			wantHeld(t, b, 2, 5, min(ticks[max(i, j)], lastTick)+span)
+			wantGrant(t, b, 2, 5, first.now, api.OK)
+			wantGrant(t, b, 2, 5, second.now, api.OK)
+			wantHeld(t, b, 2, 5, max(first.over, second.over))
 		}
 	}
 }
 
-// P17.3: a clock above MaxClock adds nothing: neither to a grant that is there, nor to one that is new.
+// P17.3: a clock above MaxClock adds nothing: so a grant of such a tick is over at that very tick, be it the first one of
+// the stream, one to a greater epoch, or one to the same; of the same epoch the later end holds, also that of an earlier
+// grant of MaxClock.
 func TestGrantAboveMaxClock(t *testing.T) {
-	b := made(t, 0)
-	over := []int{lastTick + 15, lastTick + 16, lastTick + 16, lastTick + 16, lastTick + 16, lastTick + 16}
-	for i, now := range []int{lastTick - 1, lastTick, lastTick + 1, lastTick + 16, math.MaxInt - 1, math.MaxInt} {
+	for _, now := range []int{lastTick + 1, lastTick + 2, lastTick + 15, lastTick + 16, lastTick + 17, 1 << 40, math.MaxInt} {
+		b := made(t, 0)
 		wantGrant(t, b, 0, 1, now, api.OK)
-		wantHeld(t, b, 0, 1, over[i])
-		fresh := made(t, 0)
-		wantGrant(t, fresh, 0, 1, now, api.OK)
-		wantHeld(t, fresh, 0, 1, over[i])
+		wantHeld(t, b, 0, 1, now)
+		wantGrant(t, b, 0, 2, now, api.OK)
+		wantHeld(t, b, 0, 2, now)
+		wantGrant(t, b, 1, 1, lastTick, api.OK)
+		wantGrant(t, b, 1, 1, now, api.OK)
+		wantHeld(t, b, 1, 1, max(lastTick+16, now))
+		wantGrant(t, b, 1, 2, now, api.OK)
+		wantHeld(t, b, 1, 2, now)
 	}
+}
+
+// P17.1, P17.2, P17.3: the ticks on both sides of MaxClock, by numbers alone: of a grant and of a grace.
+func TestBothSidesOfMaxClock(t *testing.T) {
+	b := made(t, 0)
+	wantGrant(t, b, 0, 1, 1073741825, api.OK)
+	wantHolder(t, b, 0, 1073741824, 1)
+	wantMay(t, b, 0, 2, 1073741824, false)
+	wantNoHolder(t, b, 0, 1073741825)
+	wantMay(t, b, 0, 2, 1073741825, true)
+	b = made(t, 0)
+	wantGrant(t, b, 0, 1, 1099511627776, api.OK)
+	wantHolder(t, b, 0, 1099511627775, 1)
+	wantMay(t, b, 0, 2, 1099511627775, false)
+	wantNoHolder(t, b, 0, 1099511627776)
+	wantMay(t, b, 0, 2, 1099511627776, true)
+	b = made(t, 0)
+	wantGrant(t, b, 0, 1, 1073741824, api.OK)
+	wantGrant(t, b, 0, 1, 1073741825, api.OK)
+	wantHolder(t, b, 0, 1073741839, 1)
+	wantNoHolder(t, b, 0, 1073741840)
+	b = newBook(t, 1073741824, true)
+	wantMay(t, b, 1, 3, 1073741839, false)
+	wantMay(t, b, 1, 3, 1073741840, true)
+	b = newBook(t, 1073741825, true)
+	wantMay(t, b, 1, 3, 1073741824, false)
+	wantMay(t, b, 1, 3, 1073741825, true)
 }
 
 // P17.3: what is released is over at each tick, also at those that are ahead of its Grant, and nothing else is changed; a
